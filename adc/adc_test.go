@@ -163,6 +163,10 @@ func randomConf(r *rand.Rand) api.Conf {
 	c.Tau = []int64{0, 1000, 32000, 1 << 30}[r.Intn(4)]
 	c.Count = api.Count{Up: 1 + r.Intn(3), Down: r.Intn(3), Set: 10 + r.Intn(100), Most: 200}
 	c.Gate, c.Recovery = r.Int63n(40000), r.Int63n(1001)
+	for i := range 2 {
+		c.Pitot[i] = api.Cal{Gain: 65000 + r.Int63n(1000), Off: r.Int63n(2000), Slope: r.Int63n(200), Drift: r.Int63n(20)}
+		c.Static[i] = api.Cal{Gain: 65000 + r.Int63n(1000), Off: r.Int63n(2000), Slope: r.Int63n(200), Drift: r.Int63n(20)}
+	}
 	if r.Intn(3) == 0 {
 		for i := range c.Labels {
 			c.Labels[i].Bits = 8 + r.Intn(11)
@@ -229,6 +233,128 @@ func TestModel(t *testing.T) {
 			if n == 0 {
 				t.Errorf("channel %d never had the mode %d", i, mode)
 			}
+		}
+	}
+}
+
+// follow compares the computer with the model, input by input.
+func follow(t *testing.T, c api.Conf, inputs []api.Input) []api.Output {
+	t.Helper()
+	k, m := open(t, c), newModel(c)
+	var l []api.Output
+	for i, in := range inputs {
+		want := m.step(in)
+		got := k.Step(in)
+		if !reflect.DeepEqual(got, want) {
+			t.Fatalf("input %d: %v, want %v", i, got, want)
+		}
+		l = append(l, got)
+	}
+	return l
+}
+
+// quick is a configuration in which readings follow the frames at once.
+func quick() api.Conf {
+	c := conf.Default()
+	c.Lag, c.Fade = 0, 0
+	c.Still.Low = 1
+	return c
+}
+
+// Promise 33.2: the limits of the sensors of temperature and angle.
+func TestSensorLimits(t *testing.T) {
+	l := level()
+	var inputs []api.Input
+	for _, heat := range []int64{150000, 149999, 150000, 200000, 250001, 300000, 350000, 400000, 400001, 400000, 350000, 299999, 250000} {
+		l.heat = heat
+		inputs = append(inputs, l.input())
+	}
+	for _, alpha := range []int64{0, 60000, 60001, 60000, 0, -60000, -60001, -60000, 1, -1, 59999, 0} {
+		l.alpha = alpha
+		inputs = append(inputs, l.input())
+	}
+	outputs := follow(t, quick(), inputs)
+	var failed []int
+	for i, o := range outputs {
+		_, s := read(t, o)
+		if s[6] == api.Failure || s[8] == api.Failure {
+			failed = append(failed, i)
+		}
+	}
+	// Beyond a limit or too fast: the same readings, counted by hand.
+	if want := []int{1, 4, 8, 11, 15, 19, 21}; !slices.Equal(failed, want) {
+		t.Errorf("the inputs %v fail, want %v", failed, want)
+	}
+}
+
+// Promise 33.2: what the Signs watch for.
+func TestSignLimits(t *testing.T) {
+	for _, x := range []struct {
+		q1, q2 [2]int64 // in even and in odd ticks
+		p      [2]int64 // before and after tick 270
+		marks  []int
+	}{
+		{[2]int64{1000, 1016}, [2]int64{1000, 1017}, [2]int64{6000000, 6064000}, nil},
+		{[2]int64{1000, 1016}, [2]int64{1000, 1017}, [2]int64{6000000, 6064001}, []int{10}},
+		{[2]int64{639, 600}, [2]int64{640, 600}, [2]int64{64000, 64000}, []int{12}},
+		{[2]int64{639, 600}, [2]int64{639, 600}, [2]int64{63999, 63999}, nil},
+	} {
+		l := level()
+		var inputs []api.Input
+		for tick := range 275 {
+			l.p = x.p[0]
+			if tick >= 270 {
+				l.p = x.p[1]
+			}
+			in := l.input()
+			in.Fixed = false // no synthetic static pressure
+			in.Frames[0], _ = frame.Put(api.Frame{ID: 1, Seq: tick % 256, Value: x.q1[tick%2]})
+			in.Frames[1], _ = frame.Put(api.Frame{ID: 2, Seq: tick % 256, Value: x.q2[tick%2]})
+			inputs = append(inputs, in)
+		}
+		outputs := follow(t, quick(), inputs)
+		m := flags(t, outputs[len(outputs)-1])
+		for i := 10; i <= 13; i++ {
+			if m[i] != slices.Contains(x.marks, i) {
+				t.Errorf("%v: the flags are %v", x, disc.Names(m))
+			}
+		}
+	}
+}
+
+// Promise 33.2: differences of exactly Tau and of exactly 4 Tau.
+func TestTauLimits(t *testing.T) {
+	for _, x := range []struct {
+		q1, q2  int64 // above the synthetic impact pressure
+		latched [2]bool
+		mode    int
+	}{
+		{32000, 0, [2]bool{}, modes.Dual},
+		{32000, -1, [2]bool{}, modes.Synthetic},
+		{32001, 0, [2]bool{true, false}, modes.Synthetic},
+		{0, 32001, [2]bool{false, true}, modes.Synthetic},
+		{128000, 128000, [2]bool{}, modes.Dual},
+		{128000, 128001, [2]bool{}, modes.Dual},
+		{128001, 128000, [2]bool{}, modes.Dual},
+		{128001, 128001, [2]bool{}, modes.Synthetic},
+	} {
+		l := level()
+		var inputs []api.Input
+		for tick := range 40 {
+			in := l.input()
+			if tick >= 20 {
+				in.Frames[0], _ = frame.Put(api.Frame{ID: 1, Seq: tick, Value: l.q + x.q1})
+				in.Frames[1], _ = frame.Put(api.Frame{ID: 2, Seq: tick, Value: l.q + x.q2})
+			}
+			inputs = append(inputs, in)
+		}
+		c := quick()
+		c.Back = 1000
+		outputs := follow(t, c, inputs)
+		last := outputs[len(outputs)-1]
+		m := flags(t, last)
+		if last.Mode[0] != x.mode || [2]bool{m[0], m[1]} != x.latched {
+			t.Errorf("%v: mode %d, flags %v", x, last.Mode[0], disc.Names(m))
 		}
 	}
 }

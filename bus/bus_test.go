@@ -95,6 +95,16 @@ func TestDue(t *testing.T) {
 	if len(Due(slot, math.MaxInt)) != 1 || len(Due(slot, math.MaxInt-1)) != 0 {
 		t.Error("Due in the last tick")
 	}
+	// Each quotient is rounded down: ten times 9900 and once 6993.
+	uneven := Spread([]int{0, 1, 2, 3, 4, 5, 6, 7, 8, 9}, 101)
+	if load, ok := Load(append(uneven, Slot{99, 143, 0})); load != 105 || !ok {
+		t.Errorf("Load = %d", load)
+	}
+	// Both slots are due together for the first time in tick 2000.
+	late := []Slot{{0, 999, 2}, {255, 1000, 0}}
+	if a, m := Busiest(late, math.MaxInt); !Right(late) || len(Due(late, 2000)) != 2 || a != 0 || m != 1 {
+		t.Errorf("Busiest(%v) = %d, %d", late, a, m)
+	}
 	for i, plan := range bad() {
 		load, ok := Load(plan)
 		a, m := Busiest(plan, 10)

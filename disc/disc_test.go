@@ -101,6 +101,11 @@ func TestNames(t *testing.T) {
 			t.Errorf("Find(%q) = %d, %v", name, n, ok)
 		}
 	}
+	for i := range 19 {
+		if !Any(marks(1<<i), i) || Any(marks(1<<19-1-1<<i), i) {
+			t.Errorf("Any of flag %d", i)
+		}
+	}
 	if len(Names(Marks{})) != 0 || !slices.Equal(Names(marks(1<<19-1)), all) {
 		t.Error("Names of no and of all flags")
 	}

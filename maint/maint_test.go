@@ -33,7 +33,7 @@ func want(e api.Event) (string, bool) {
 }
 
 func draw(r *rand.Rand) api.Event {
-	e := api.Event{Tick: r.Intn(100), Code: r.Intn(13), Arg: r.Intn(7) - 1}
+	e := api.Event{Tick: r.Intn(100), Code: r.Intn(13), Arg: r.Intn(9) - 1}
 	if r.Intn(2) == 0 {
 		e.Arg = 0
 	}

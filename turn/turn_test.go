@@ -178,6 +178,23 @@ func TestAngle(t *testing.T) {
 	}
 }
 
+// A zero Turner is ready to use, whichever method comes first.
+func TestZero(t *testing.T) {
+	var used, first, second, third Turner
+	used.Steps()
+	wantCos, wantSin := used.At(12345)
+	if c, s := first.At(12345); c != wantCos || s != wantSin {
+		t.Error("At of a zero Turner")
+	}
+	wantX, wantY := used.Point(12345, 1000)
+	if x, y := second.Point(12345, 1000); x != wantX || y != wantY {
+		t.Error("Point of a zero Turner")
+	}
+	if third.Angle(77, 99) != used.Angle(77, 99) {
+		t.Error("Angle of a zero Turner")
+	}
+}
+
 func TestNil(t *testing.T) {
 	var none *Turner
 	if c, s := none.Steps(); len(c) != 0 || len(s) != 0 {

@@ -191,6 +191,11 @@ func TestEdges(t *testing.T) {
 	if w.Step(4999, 0, 6484800, 0) != 0 {
 		t.Error("Clear keeps a run")
 	}
+	equal := Book{flat(10000), flat(10000), 20000, 0, 1}
+	w, _ = New(equal)
+	if s, ok := Band(equal, 0, 6484800, 0); s != (hull.Span{Low: 10000, High: 10000}) || !ok || w.Step(10000, 0, 6484800, 0) != 0 {
+		t.Error("equal limits are not crossed")
+	}
 	var none *Warner
 	none.Clear()
 	if none.Step(1, 2, 3, 4) != 0 || none.Marks() != 0 {
